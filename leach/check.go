@@ -1,32 +1,19 @@
 package leach
 
-import "saltdome/api"
-
-// argument returns the error of an argument that is as defined, or is not.
-func argument(valid bool) api.Errno {
-	if !valid {
-		return api.ErrArg
-	}
-	return api.OK
-}
-
-// within reports whether a number lies from low to high.
-func within(n, low, high int) bool { return low <= n && n <= high }
-
-// validSpan reports whether a span holds a number, and only numbers from 0 to most.
-func validSpan(s api.Span, most int) bool {
-	return within(s.Low, 0, s.High) && s.High <= most
-}
+import (
+	"saltdome/api"
+	"saltdome/valid"
+)
 
 // validSlice reports whether a slice is as defined.
 func validSlice(s api.LeachSlice) bool {
-	return validSpan(s.Volume, api.LeachVolume) && within(s.Open, 1000, api.LeachOpen) && within(s.Fall, 0, s.Open-1) &&
-		validSpan(s.Rate, api.LeachRate) && within(s.Most, 0, api.LeachVolume)
+	return valid.Span(s.Volume, api.LeachVolume) && valid.Within(s.Open, 1000, api.LeachOpen) && valid.Within(s.Fall, 0, s.Open-1) &&
+		valid.Span(s.Rate, api.LeachRate) && valid.Within(s.Most, 0, api.LeachVolume)
 }
 
 // validCavern reports whether a cavern is as defined.
 func validCavern(c api.LeachCavern) bool {
-	if !within(len(c.Slices), 1, api.LeachSlices) || !within(c.Hold, 1, api.LeachRate) || !within(c.Oil, 0, api.LeachVolume) {
+	if !valid.Within(len(c.Slices), 1, api.LeachSlices) || !valid.Within(c.Hold, 1, api.LeachRate) || !valid.Within(c.Oil, 0, api.LeachVolume) {
 		return false
 	}
 	for _, s := range c.Slices {
@@ -40,8 +27,8 @@ func validCavern(c api.LeachCavern) bool {
 // validStage reports whether a stage is one of a cavern.
 func validStage(c api.LeachCavern, s api.LeachStage) bool {
 	top := len(c.Slices) - 1
-	return within(s.Water, 1, api.LeachWater) && within(s.In, 0, top) && within(s.Out, 0, top) && s.In != s.Out &&
-		within(s.Blanket, 0, top+1)
+	return valid.Within(s.Water, 1, api.LeachWater) && valid.Within(s.In, 0, top) && valid.Within(s.Out, 0, top) && s.In != s.Out &&
+		valid.Within(s.Blanket, 0, top+1)
 }
 
 // validMeasure reports whether weights make a measure of a cavern.
@@ -50,11 +37,11 @@ func validMeasure(c api.LeachCavern, weights []int, sump int) bool {
 		return false
 	}
 	for _, w := range weights {
-		if !within(w, -api.LeachWeight, api.LeachWeight) {
+		if !valid.Within(w, -api.LeachWeight, api.LeachWeight) {
 			return false
 		}
 	}
-	return within(sump, -api.LeachWeight, api.LeachWeight)
+	return valid.Within(sump, -api.LeachWeight, api.LeachWeight)
 }
 
 // validTruth reports whether a truth is one of a cavern with so many stages.
@@ -63,7 +50,7 @@ func validTruth(c api.LeachCavern, stages int, t api.LeachTruth) bool {
 		return false
 	}
 	for i, s := range c.Slices {
-		if !within(t.Volumes[i], s.Volume.Low, s.Volume.High) {
+		if !valid.Within(t.Volumes[i], s.Volume.Low, s.Volume.High) {
 			return false
 		}
 	}
@@ -81,7 +68,7 @@ func validRates(c api.LeachCavern, rates []int) bool {
 		return false
 	}
 	for i, s := range c.Slices {
-		if !within(rates[i], s.Rate.Low, s.Rate.High) {
+		if !valid.Within(rates[i], s.Rate.Low, s.Rate.High) {
 			return false
 		}
 	}
@@ -94,7 +81,7 @@ func validShape(c api.LeachCavern, want []int) bool {
 		return false
 	}
 	for _, n := range want {
-		if !within(n, 0, api.LeachVolume) {
+		if !valid.Within(n, 0, api.LeachVolume) {
 			return false
 		}
 	}
@@ -122,5 +109,5 @@ func checkMenu(c api.LeachCavern, menu []api.LeachStage, want []int) api.Errno {
 	if e := checkStages(c, menu, api.LeachMenu); e != api.OK {
 		return e
 	}
-	return argument(len(menu) > 0 && validShape(c, want))
+	return valid.Argument(len(menu) > 0 && validShape(c, want))
 }

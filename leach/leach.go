@@ -1,10 +1,13 @@
 // Package leach is layer 1: see shared/doc/01-leach.md.
 package leach
 
-import "saltdome/api"
+import (
+	"saltdome/api"
+	"saltdome/valid"
+)
 
 // Check returns the error of a cavern.
-func Check(c api.LeachCavern) api.Errno { return argument(validCavern(c)) }
+func Check(c api.LeachCavern) api.Errno { return valid.Argument(validCavern(c)) }
 
 // Rates returns between which bounds a cubic metre of water takes salt from each slice.
 func Rates(c api.LeachCavern, s api.LeachStage) ([]api.Span, api.Errno) {

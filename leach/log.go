@@ -5,6 +5,7 @@ import (
 	"strings"
 
 	"saltdome/api"
+	"saltdome/valid"
 )
 
 // The form of logs: their check is a sum modulo checkModulus, and their numbers have at most numberDigits digits.
@@ -76,7 +77,7 @@ func readNumber(word string) int {
 	}
 	n := 0
 	for i := range len(word) {
-		if !within(int(word[i]), '0', '9') {
+		if !valid.Within(int(word[i]), '0', '9') {
 			panic(noLog{})
 		}
 		n = 10*n + int(word[i]-'0')
