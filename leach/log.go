@@ -5,7 +5,7 @@ import (
 	"strings"
 
 	"saltdome/api"
-	"saltdome/valid"
+	"saltdome/words"
 )
 
 // The form of logs: their check is a sum modulo checkModulus, and their numbers have at most numberDigits digits.
@@ -59,12 +59,12 @@ type noLog struct{}
 // line reads a line into numbers.
 func (r *logReader) line(word string, numbers ...*int) {
 	line, rest, ended := strings.Cut(r.rest, "\n")
-	words := strings.Split(line, " ")
-	if !ended || words[0] != word || len(words) != 1+len(numbers) {
+	split := strings.Split(line, " ")
+	if !ended || split[0] != word || len(split) != 1+len(numbers) {
 		panic(noLog{})
 	}
 	for i, n := range numbers {
-		*n = readNumber(words[1+i])
+		*n = readNumber(split[1+i])
 		r.sum += *n
 	}
 	r.rest = rest
@@ -72,15 +72,9 @@ func (r *logReader) line(word string, numbers ...*int) {
 
 // readNumber returns the number that a word is.
 func readNumber(word string) int {
-	if word == "" || len(word) > numberDigits || word[0] == '0' && word != "0" {
+	n, ok := words.Number(word, numberDigits)
+	if !ok {
 		panic(noLog{})
-	}
-	n := 0
-	for i := range len(word) {
-		if !valid.Within(int(word[i]), '0', '9') {
-			panic(noLog{})
-		}
-		n = 10*n + int(word[i]-'0')
 	}
 	return n
 }

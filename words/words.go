@@ -1,0 +1,17 @@
+// Package words has what the layers share to read the words of a text.
+package words
+
+// Number returns the number that a word is, in decimal digits without a sign and without leading zeros; false, if it is none, or has more than so many digits (at most 18).
+func Number(word string, digits int) (int, bool) {
+	if word == "" || len(word) > digits || word[0] == '0' && word != "0" {
+		return 0, false
+	}
+	n := 0
+	for _, digit := range word {
+		if digit < '0' || digit > '9' {
+			return 0, false
+		}
+		n = 10*n + int(digit-'0')
+	}
+	return n, true
+}
