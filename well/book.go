@@ -79,12 +79,7 @@ func takeLine(text string) ([]string, string) {
 
 // readNumbers reads words into as many numbers.
 func readNumbers(list []string, numbers ...*int) {
-	insist(len(list) == len(numbers))
-	for i, word := range list {
-		n, ok := words.Number(word, numberDigits)
-		insist(ok)
-		*numbers[i] = n
-	}
+	insist(words.Numbers(list, numberDigits, numbers...))
 }
 
 // readEither reports whether a word is the one or the other one.

@@ -15,3 +15,18 @@ func Number(word string, digits int) (int, bool) {
 	}
 	return n, true
 }
+
+// Numbers reads words into as many numbers of at most so many digits each; false, if there are more words or fewer, or one is no number.
+func Numbers(list []string, digits int, numbers ...*int) bool {
+	if len(list) != len(numbers) {
+		return false
+	}
+	for i, word := range list {
+		n, ok := Number(word, digits)
+		if !ok {
+			return false
+		}
+		*numbers[i] = n
+	}
+	return true
+}

@@ -24,3 +24,18 @@ func TestNumber(t *testing.T) {
 		t.Error("two digits are more than one")
 	}
 }
+
+func TestNumbers(t *testing.T) {
+	var a, b int
+	if !words.Numbers([]string{"7", "10"}, 2, &a, &b) || a != 7 || b != 10 {
+		t.Error(a, b)
+	}
+	if !words.Numbers(nil, 2) {
+		t.Error("no words are no numbers")
+	}
+	for _, list := range [][]string{nil, {"7"}, {"7", "10", "1"}, {"7", "x"}, {"x", "7"}, {"7", "100"}, {"7", ""}, {"07", "1"}} {
+		if words.Numbers(list, 2, &a, &b) {
+			t.Error(list)
+		}
+	}
+}
