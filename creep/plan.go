@@ -107,7 +107,9 @@ func (p *planner) first() ([]int, bool) {
 		hopeless[at] = true
 		return false
 	}
-	return plan, len(p.needs) == 0 || search(p.start())
+	// The search sets the plan, so it must be over before the plan is looked at.
+	found := len(p.needs) == 0 || search(p.start())
+	return plan, found
 }
 
 // may reports whether a cavern can have its mode in a set, as far as tables, its gate and the day before allow it.

@@ -99,7 +99,9 @@ func (p *paths) can(at place, does api.PlantState) bool {
 // grow adds all stands to which there is a way from those that are there, and leaves out ways that do not lead to the end of the hours.
 func (p *paths) grow() {
 	for n := 0; n < len(p.stands); n++ {
-		p.stands[n].options = p.options(p.stands[n].place)
+		// To find options adds stands, so it must be over before the list of stands is looked at.
+		options := p.options(p.stands[n].place)
+		p.stands[n].options = options
 	}
 	for n := len(p.stands) - 1; n >= 0; n-- {
 		s := &p.stands[n]
